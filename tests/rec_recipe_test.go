@@ -3,6 +3,7 @@ package tests
 import (
 	"fmt"
 	"slices"
+	"strings"
 	"testing"
 
 	"loop.example/maltrun/impl"
@@ -257,7 +258,12 @@ func TestRecToldOfTheExample(t *testing.T) {
 		{Name: "fill", Kind: impl.RecFill, A: "s1", B: "malt", N: 5, Within: 3, Then: "go", Else: "scrapped"},
 		{Name: "go", Kind: impl.RecMove, A: "s1", B: "s2", N: 5, Within: 4, Then: "good", Else: "saved"},
 	}
+	text := "fill fill s1 malt 5 within 3 then go else scrapped\ngo move s1 s2 5 within 4 then good else saved\n"
 	wantOk(t, "the example", impl.RecOk(r), true)
+	wantRecipe(t, "\n"+strings.Replace(text, "scrapped", "scrapped   # into the first slot", 1), r)
+	if got := impl.RecPrint(r); got != text {
+		t.Errorf("RecPrint is %q, should be %q", got, text)
+	}
 	wantTold(t, r, "fill", []string{"s1", "s2"}, 7, [4]bool{false, true, true, true})
 	wantTold(t, r, "go", []string{"s1", "s2"}, 4, [4]bool{false, true, true, false})
 }
