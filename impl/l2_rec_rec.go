@@ -79,14 +79,20 @@ func RecCan(r []RecPhase, from string, end int) bool {
 	return recFillTable(r, isIt, recEither).of(from)
 }
 
-// recHasPhase says whether one of the phases has this Name.
-func recHasPhase(phases []RecPhase, name string) bool {
+// recPhaseOf is the first of the phases that has this Name; false, if none has it.
+func recPhaseOf(phases []RecPhase, name string) (RecPhase, bool) {
 	for _, p := range phases {
 		if p.Name == name {
-			return true
+			return p, true
 		}
 	}
-	return false
+	return RecPhase{}, false
+}
+
+// recHasPhase says whether one of the phases has this Name.
+func recHasPhase(phases []RecPhase, name string) bool {
+	_, ok := recPhaseOf(phases, name)
+	return ok
 }
 
 // recGoesOn says whether a phase may go on to a name, when these are the later ones.

@@ -48,10 +48,57 @@ func lookAtFile(t *testing.T, path string, source []byte) {
 		}
 	}
 	for _, d := range file.Decls {
-		if f, ok := d.(*ast.FuncDecl); ok {
-			if lines := places.Position(f.End()).Line - places.Position(f.Pos()).Line + 1; lines > 60 {
-				t.Errorf("%s: %s has %d lines", path, f.Name.Name, lines)
+		switch d := d.(type) {
+		case *ast.FuncDecl:
+			if lines := places.Position(d.End()).Line - places.Position(d.Pos()).Line + 1; lines > 60 {
+				t.Errorf("%s: %s has %d lines", path, d.Name.Name, lines)
+			}
+			lookAtWrites(t, path, d)
+		case *ast.GenDecl:
+			lookAtVariables(t, path, d)
+		}
+	}
+}
+
+// filledByInit has the package-level variables that the document's chapter 'Ways' asks an init function to fill.
+const filledByInit = " recForms "
+
+// lookAtVariables: a package-level variable has its value where it is declared, unless an init function is to fill it.
+func lookAtVariables(t *testing.T, path string, d *ast.GenDecl) {
+	for _, spec := range d.Specs {
+		v, ok := spec.(*ast.ValueSpec)
+		if !ok || d.Tok != token.VAR {
+			continue
+		}
+		for _, name := range v.Names {
+			if filled := strings.Contains(filledByInit, " "+name.Name+" "); filled != (len(v.Values) == 0) {
+				t.Errorf("%s: the variable %s stands with or without a value as it should not", path, name.Name)
 			}
 		}
 	}
+}
+
+// lookAtWrites: what init fills is written nowhere else, so that no call leaves anything behind in it.
+func lookAtWrites(t *testing.T, path string, f *ast.FuncDecl) {
+	if f.Name.Name == "init" {
+		return
+	}
+	ast.Inspect(f, func(n ast.Node) bool {
+		var written []ast.Expr
+		switch n := n.(type) {
+		case *ast.AssignStmt:
+			written = n.Lhs
+		case *ast.CallExpr: // clear and delete, or what may call these
+			written = n.Args
+		}
+		for _, e := range written {
+			if part, ok := e.(*ast.IndexExpr); ok {
+				e = part.X
+			}
+			if name, ok := e.(*ast.Ident); ok && strings.Contains(filledByInit, " "+name.Name+" ") {
+				t.Errorf("%s: %s may write into what init fills", path, f.Name.Name)
+			}
+		}
+		return true
+	})
 }

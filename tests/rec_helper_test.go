@@ -62,6 +62,17 @@ func chain(n int) []impl.RecPhase {
 	return r
 }
 
+// notOk is recipes that are not ok, each for another reason, that have phases all the same.
+func notOk() [][]impl.RecPhase {
+	back, twice, kind, late, long := brew(), brew(), brew(), brew(), brew()
+	back[4].Else = "fill"
+	twice[1].Name = "fill"
+	kind[1].Kind = 0
+	late[4].Within = 1001
+	long[2].N = 5
+	return [][]impl.RecPhase{nil, {}, make([]impl.RecPhase, 1), back, twice, kind, late, long, chain(13), make([]impl.RecPhase, 5000)}
+}
+
 // way is what one run comes by: its phases, and the number of its end.
 type way struct {
 	phases []impl.RecPhase

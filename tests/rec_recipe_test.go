@@ -140,11 +140,7 @@ func TestRecToldOfWhatIsNoPhase(t *testing.T) {
 }
 
 func TestRecToldOfWhatIsNotOk(t *testing.T) {
-	back, twice, none := brew(), brew(), brew()
-	back[4].Else = "fill"
-	twice[1].Name = "fill"
-	none[1].Kind = 0
-	for _, r := range [][]impl.RecPhase{nil, {}, make([]impl.RecPhase, 1), back, twice, none, chain(13)} {
+	for _, r := range notOk() {
 		for _, from := range []string{"fill", "move", "pa", "pl", "", "good", "saved", "scrapped"} {
 			wantTold(t, r, from, nil, 0, [4]bool{})
 		}

@@ -29,13 +29,9 @@ func TestRecPrintWritesEachForm(t *testing.T) {
 }
 
 func TestRecPrintOfWhatIsNotOk(t *testing.T) {
-	back, twice, none := brew(), brew(), brew()
-	back[4].Else = "fill"
-	twice[1].Name = "fill"
-	none[1].Kind = 0
 	high := []impl.RecPhase{phase(func(p *impl.RecPhase) { p.Kind = 6 })}
 	below := []impl.RecPhase{phase(func(p *impl.RecPhase) { p.Kind = -1 })}
-	for _, r := range [][]impl.RecPhase{nil, {}, make([]impl.RecPhase, 1), back, twice, none, high, below, chain(13), make([]impl.RecPhase, 5000)} {
+	for _, r := range append(notOk(), high, below) {
 		if got := impl.RecPrint(r); got != "" {
 			t.Errorf("RecPrint of what is not ok is %.200q", got)
 		}
