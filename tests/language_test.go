@@ -47,6 +47,7 @@ func lookAtFile(t *testing.T, path string, source []byte) {
 			t.Errorf("%s: imports %s", path, i.Path.Value)
 		}
 	}
+	lookAtMaps(t, path, file)
 	for _, d := range file.Decls {
 		switch d := d.(type) {
 		case *ast.FuncDecl:
@@ -58,6 +59,18 @@ func lookAtFile(t *testing.T, path string, source []byte) {
 			lookAtVariables(t, path, d)
 		}
 	}
+}
+
+// lookAtMaps: no map has bools or texts as values.
+func lookAtMaps(t *testing.T, path string, file *ast.File) {
+	ast.Inspect(file, func(n ast.Node) bool {
+		if m, ok := n.(*ast.MapType); ok {
+			if value, ok := m.Value.(*ast.Ident); ok && (value.Name == "bool" || value.Name == "string") {
+				t.Errorf("%s: a map with values of type %s", path, value.Name)
+			}
+		}
+		return true
+	})
 }
 
 // filledByInit has the package-level variables that the document's chapter 'Ways' asks an init function to fill.
