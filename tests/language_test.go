@@ -74,7 +74,7 @@ func lookAtMaps(t *testing.T, path string, file *ast.File) {
 }
 
 // filledByInit has the package-level variables that the document's chapter 'Ways' asks an init function to fill.
-const filledByInit = " recForms "
+const filledByInit = " recForms runKinds "
 
 // lookAtVariables: a package-level variable has its value where it is declared, unless an init function is to fill it.
 func lookAtVariables(t *testing.T, path string, d *ast.GenDecl) {
