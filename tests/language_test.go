@@ -8,6 +8,7 @@ import (
 	"go/token"
 	"os"
 	"path/filepath"
+	"slices"
 	"strings"
 	"testing"
 )
@@ -91,6 +92,15 @@ func lookAtVariables(t *testing.T, path string, d *ast.GenDecl) {
 	}
 }
 
+// isFilledByInit says whether this is such a variable, or one of its places.
+func isFilledByInit(e ast.Expr) bool {
+	if part, ok := e.(*ast.IndexExpr); ok {
+		e = part.X
+	}
+	name, ok := e.(*ast.Ident)
+	return ok && strings.Contains(filledByInit, " "+name.Name+" ")
+}
+
 // lookAtWrites: what init fills is written nowhere else, so that no call leaves anything behind in it.
 func lookAtWrites(t *testing.T, path string, f *ast.FuncDecl) {
 	if f.Name.Name == "init" {
@@ -103,15 +113,55 @@ func lookAtWrites(t *testing.T, path string, f *ast.FuncDecl) {
 			written = n.Lhs
 		case *ast.CallExpr: // clear and delete, or what may call these
 			written = n.Args
+		case *ast.UnaryExpr: // what has its address may write into it
+			if n.Op == token.AND {
+				written = []ast.Expr{n.X}
+			}
+		case *ast.SliceExpr:
+			written = []ast.Expr{n.X}
 		}
-		for _, e := range written {
-			if part, ok := e.(*ast.IndexExpr); ok {
-				e = part.X
-			}
-			if name, ok := e.(*ast.Ident); ok && strings.Contains(filledByInit, " "+name.Name+" ") {
-				t.Errorf("%s: %s may write into what init fills", path, f.Name.Name)
-			}
+		if slices.ContainsFunc(written, isFilledByInit) {
+			t.Errorf("%s: %s may write into what init fills", path, f.Name.Name)
 		}
 		return true
 	})
+}
+
+// What init fills is filled there once, and looked up elsewhere: no such variable stands there for nothing.
+func TestWhatInitFillsIsReadElsewhere(t *testing.T) {
+	files, err := filepath.Glob("../impl/*.go")
+	if err != nil {
+		t.Fatal(err)
+	}
+	filled, read := map[string]int{}, map[string]int{}
+	for _, path := range files {
+		file, err := parser.ParseFile(token.NewFileSet(), path, nil, 0)
+		if err != nil {
+			t.Fatal(err)
+		}
+		for _, d := range file.Decls {
+			f, ok := d.(*ast.FuncDecl)
+			if !ok {
+				continue
+			}
+			ast.Inspect(f, func(n ast.Node) bool {
+				switch n := n.(type) {
+				case *ast.AssignStmt:
+					if name, ok := n.Lhs[0].(*ast.Ident); ok && f.Name.Name == "init" {
+						filled[name.Name]++
+					}
+				case *ast.IndexExpr:
+					if name, ok := n.X.(*ast.Ident); ok && f.Name.Name != "init" {
+						read[name.Name]++
+					}
+				}
+				return true
+			})
+		}
+	}
+	for _, name := range strings.Fields(filledByInit) {
+		if filled[name] != 1 || read[name] == 0 {
+			t.Errorf("%s is filled %d times by init, and read at %d places elsewhere", name, filled[name], read[name])
+		}
+	}
 }

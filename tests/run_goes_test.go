@@ -73,9 +73,9 @@ func TestRunGoesWhereAllWait(t *testing.T) {
 	}
 }
 
-// Of a house that is not ok nothing is told, whatever it is that is broken.
-func TestRunGoesOfAHouseThatIsNotOk(t *testing.T) {
-	for i, change := range []func(h *impl.RunHouse){
+// breaks is changes of the house, each of which makes it one that is not ok.
+func breaks() []func(h *impl.RunHouse) {
+	return []func(h *impl.RunHouse){
 		func(h *impl.RunHouse) { h.Now = -1 },
 		func(h *impl.RunHouse) { h.Now = 100001 },
 		func(h *impl.RunHouse) { h.Last = 6 },
@@ -94,15 +94,25 @@ func TestRunGoesOfAHouseThatIsNotOk(t *testing.T) {
 		func(h *impl.RunHouse) { h.Batches[2].Name = "B" },
 		func(h *impl.RunHouse) { h.Batches[2].At = "good" },
 		func(h *impl.RunHouse) { h.Dones[0].End = 0 },
+		func(h *impl.RunHouse) { h.Dones[0].End = 4 },
 		func(h *impl.RunHouse) { h.Dones[2].Tick = 41 },
 		func(h *impl.RunHouse) { h.Dones = endings(21, 40) },
-	} {
+	}
+}
+
+func veryMany(h *impl.RunHouse) {
+	h.Batches = very(200000, h.Batches[0])
+}
+
+// Of a house that is not ok nothing is told, whatever it is that is broken.
+func TestRunGoesOfAHouseThatIsNotOk(t *testing.T) {
+	for i, change := range breaks() {
 		if len(houseFaults(house(change))) == 0 {
 			t.Errorf("%d is ok", i)
 		}
 		wantGoes(t, fmt.Sprint("broken ", i), house(change))
 	}
-	wantGoes(t, "very many", house(func(h *impl.RunHouse) { h.Batches = very(200000, h.Batches[0]) }))
+	wantGoes(t, "very many", house(veryMany))
 }
 
 // RunGoes answers at every house, the same when asked again, writes into none, and answers with new memory.
